@@ -1,0 +1,1 @@
+"""Clockhand: pages let go by a hand that goes round."""
