@@ -2,12 +2,13 @@
 
 from clockhand.checks import check_rooms, check_row
 from clockhand.errors import BadRule
-from clockhand.hands import told
+from clockhand.hands import Dial
 
 
 def _by_hand(rooms, row):
     """Tell the places of the lacks of a new dial."""
-    return [place for place, answer in enumerate(told(rooms, row)) if answer[0]]
+    dial = Dial(rooms)
+    return [place for place, page in enumerate(row) if dial.ask(page)[0]]
 
 
 def _by_unseen(rooms, row):
@@ -54,5 +55,10 @@ def lacking(rooms, row, rule):
     check_rooms(rooms)
     check_row(row)
     check_rule(rule)
-    find_lacks = RULES[rule]
-    return find_lacks(rooms, row)
+    return find_lacks(rooms, row, rule)
+
+
+def find_lacks(rooms, row, rule):
+    """Tell what lacking tells, of a row of any length; nothing is checked."""
+    by_rule = RULES[rule]
+    return by_rule(rooms, row)

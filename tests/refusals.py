@@ -32,6 +32,10 @@ def check_bad_rule(test, call, *handed):
     refusal(test, BadRule, call, *handed)
 
 
+def check_too_many(test, call, *handed):
+    refusal(test, TooMany, call, *handed)
+
+
 def bad_rows():
     """Tell rows that are refused, each with the place to be told."""
     cases = []

@@ -3,11 +3,19 @@
 import inspect
 import unittest
 
-from clockhand import errors, hands, rules
+from clockhand import (best, errors, hands, papers, rules, stretches,
+                       worst)
 
 FUNCTIONS = (
     (hands, "told", ["rooms", "row"]),
     (rules, "lacking", ["rooms", "row", "rule"]),
+    (best, "best", ["rooms", "row"]),
+    (papers, "spells", ["row"]),
+    (papers, "paper", ["rooms", "row"]),
+    (papers, "shown", ["rooms", "row", "places"]),
+    (stretches, "stretches", ["rooms", "row"]),
+    (stretches, "lacking_in", ["rooms", "row", "rule"]),
+    (worst, "worst", ["rooms", "pages", "long", "rule"]),
 )
 DIAL_METHODS = (
     ("ask", ["self", "page"]),
@@ -45,6 +53,15 @@ class Interface(unittest.TestCase):
         self.assertEqual(hands.Dial(rooms=2).ask(page=1), (True, None, []))
         self.assertEqual(hands.told(row=[1], rooms=2), [(True, None, [])])
         self.assertEqual(rules.lacking(rule="hand", row=[1], rooms=2), [0])
+        self.assertEqual(best.best(row=[1], rooms=2), ([0], []))
+        self.assertEqual(papers.spells(row=[1]), [])
+        self.assertIs(type(papers.paper(row=[1], rooms=2)), list)
+        self.assertEqual(papers.shown(places=[], row=[1], rooms=2), 1)
+        self.assertEqual(stretches.stretches(row=[1], rooms=2), [(0, 1)])
+        self.assertEqual(
+            stretches.lacking_in(rule="hand", row=[1], rooms=2), [1])
+        self.assertEqual(
+            worst.worst(rule="hand", long=1, pages=1, rooms=1), (0, [0]))
 
 
 if __name__ == "__main__":
